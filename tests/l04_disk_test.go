@@ -904,15 +904,19 @@ func withMoves(many int) impl.Disk {
 	return d
 }
 
-func TestDiskNotRight(t *testing.T) {
-	all := slices.Concat(badNumbersAndInodes(), badDirs(), badMoves(), []badDisk{
+// badDisks are not right in one way each.
+func badDisks() []badDisk {
+	return slices.Concat(badNumbersAndInodes(), badDirs(), badMoves(), []badDisk{
 		{"MaxInodes + 1", withInodes(impl.MaxInodes + 1)},
 		{"far too many Inodes", withInodes(1000)},
 		{"MaxMoves + 1", withMoves(impl.MaxMoves + 1)},
 		{"far too many Moves", withMoves(1000)},
 	})
+}
+
+func TestDiskNotRight(t *testing.T) {
 	calls := []diskCall{callMake("new"), callMake("b"), callMake("No"), callAdd("b", ""), callAdd("b", "x"), callAdd("none", "x"), callAdd("No", "x"), callSync("b"), callSync("none"), callSync("No"), callRename("b", "c"), callRename("b", "b"), callRename("none", "b"), callRename("b", "No"), callDrop("b"), callDrop("none"), callDrop(""), callSyncDir()}
-	for _, b := range all {
+	for _, b := range badDisks() {
 		if slowRight(b.d) {
 			t.Fatalf("%s: right by the words: %#v", b.name, b.d)
 		}
