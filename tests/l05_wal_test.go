@@ -113,13 +113,14 @@ func slowFits(w impl.Wal, r impl.Rec) bool {
 	return false
 }
 
+// slowStep asks in the order in which the words name what may be wrong: the record first, then the Wal.
 func slowStep(w impl.Wal, r impl.Rec) (impl.Wal, bool) {
-	if !slowWalOk(w) {
-		return impl.Wal{}, false
-	}
 	x := copyWal(w)
 	if !slowFits(w, r) {
 		return x, false
+	}
+	if !slowWalOk(w) {
+		return impl.Wal{}, false
 	}
 	switch r.Kind {
 	case impl.RcHard:
@@ -581,11 +582,6 @@ func TestWalsThatAreNotRight(t *testing.T) {
 		if s := impl.WalText(b.w); s != "" {
 			t.Errorf("%s: WalText = %s", b.name, brief(s))
 		}
-		for _, r := range someRecs() {
-			if w, ok := impl.WalStep(b.w, r); ok || !sameWal(w, impl.Wal{}) {
-				t.Errorf("%s: WalStep by %#v = %s, %v", b.name, r, brief(w), ok)
-			}
-		}
 		for _, w := range append(rightWals(), b.w, badWals()[0].w) {
 			if l, ok := impl.Changes(b.w, w); ok || len(l) != 0 {
 				t.Errorf("%s: Changes from it = %s, %v", b.name, brief(l), ok)
@@ -639,6 +635,107 @@ func wantStep(t *testing.T, w impl.Wal, r impl.Rec, want impl.Wal, fits bool) im
 		t.Fatalf("WalStep of %s by %s = %s, that is not right", brief(ahead), brief(r), brief(got))
 	}
 	return got
+}
+
+// recsThatNeverFit are not RecOk, or of the kind that only a log begins with.
+func recsThatNeverFit() []impl.Rec {
+	return []impl.Rec{
+		{},
+		{Kind: 5},
+		{Kind: 9},
+		{Kind: -1},
+		{Kind: impl.RcHard, Term: -1},
+		{Kind: impl.RcHard, Term: impl.MaxTerm + 1},
+		{Kind: impl.RcHard, Term: impl.MaxTerm, Vote: impl.MaxPeers},
+		{Kind: impl.RcHard, Term: impl.MaxTerm, Index: 1},
+		{Kind: impl.RcEntry, Index: 1},
+		{Kind: impl.RcEntry, Term: 1, Index: impl.MaxIndex + 1},
+		{Kind: impl.RcEntry, Term: 6, Index: 12, Data: strings.Repeat("x", impl.MaxData+1)},
+		{Kind: impl.RcCut},
+		{Kind: impl.RcCut, Index: 1, Term: 1},
+		{Kind: impl.RcCut, Index: 8, Vote: -1},
+		{Kind: impl.RcBase, Index: 1},
+		{Kind: impl.RcBase},
+		{Kind: impl.RcBase, Term: 1, Index: 1},
+		{Kind: impl.RcBase, Term: 3, Index: 7},
+	}
+}
+
+// Where the record and the Wal are wrong at once, the record is named first: any Wal is as it is.
+func TestStepsThatNeverFitABadWal(t *testing.T) {
+	for _, b := range badWals() {
+		for _, r := range recsThatNeverFit() {
+			wantStep(t, b.w, r, b.w, false)
+		}
+	}
+}
+
+// A record that is right may fit a Wal that is not, or not; each answer written out by hand.
+func TestStepsOfABadWal(t *testing.T) {
+	turn := func(change func(w *impl.Wal)) impl.Wal {
+		w := richWal()
+		change(&w)
+		return w
+	}
+	term := turn(func(w *impl.Wal) { w.Term = impl.MaxTerm + 1 })
+	vote := turn(func(w *impl.Wal) { w.Vote = impl.MaxPeers })
+	base := turn(func(w *impl.Wal) { w.Base = -2 })
+	far := turn(func(w *impl.Wal) { w.Base = math.MaxInt })
+	deep := turn(func(w *impl.Wal) { w.Base = math.MinInt })
+	falling := turn(func(w *impl.Wal) { w.Entries[3].Term = 4 })
+	full := turn(func(w *impl.Wal) { w.Entries = sameEntries(impl.MaxLog+1, 3, "") })
+	hard := func(term, vote int) impl.Rec { return impl.Rec{Kind: impl.RcHard, Term: term, Vote: vote} }
+	entry := func(term, index int) impl.Rec { return impl.Rec{Kind: impl.RcEntry, Term: term, Index: index} }
+	cut := func(index int) impl.Rec { return impl.Rec{Kind: impl.RcCut, Index: index} }
+	for _, c := range []struct {
+		w    impl.Wal
+		r    impl.Rec
+		fits bool
+	}{
+		{term, hard(impl.MaxTerm, 2), false}, {term, entry(6, 12), true}, {term, entry(6, 11), false}, {term, cut(8), true}, {term, cut(7), false},
+		{vote, hard(7, 1), true}, {vote, hard(6, 2), false}, {vote, hard(6, -1), false}, {vote, hard(5, 2), false}, {vote, entry(7, 12), false}, {vote, entry(6, 12), true},
+		{base, cut(1), true}, {base, cut(2), true}, {base, cut(3), false}, {base, entry(6, 3), true}, {base, entry(6, 2), false},
+		{far, hard(6, 2), true}, {far, entry(6, 1), false}, {far, entry(6, impl.MaxIndex), false}, {far, cut(1), false}, {far, cut(impl.MaxIndex), false},
+		{deep, hard(6, 2), true}, {deep, entry(6, 1), false}, {deep, cut(1), false}, {deep, cut(impl.MaxIndex), false},
+		{falling, entry(3, 12), false}, {falling, entry(4, 12), true}, {falling, cut(11), true}, {falling, cut(12), false},
+		{full, entry(3, 69), false}, {full, cut(68), true}, {full, cut(69), false}, {full, hard(6, 2), true}, {full, hard(6, 1), false},
+	} {
+		want := c.w
+		if c.fits {
+			want = impl.Wal{}
+		}
+		wantStep(t, c.w, c.r, want, false)
+	}
+}
+
+// Wals and records put together by chance, each wrong or right, held against the words.
+func TestStepsOfAnyWal(t *testing.T) {
+	r := rand.New(rand.NewPCG(21, 5))
+	zero, same, fitting := 0, 0, 0
+	for range 100000 {
+		w := someWal(r)
+		rec := someStep(r, w)
+		want, fits := slowStep(w, rec)
+		wantStep(t, w, rec, want, fits)
+		switch {
+		case fits:
+			fitting++
+		case slowWalOk(w):
+		case slowFits(w, rec):
+			zero++
+		default:
+			same++
+		}
+	}
+	if zero < 1000 || same < 1000 || fitting < 1000 {
+		t.Errorf("of Wals that are not right %d came to nothing and %d stayed; %d records fitted", zero, same, fitting)
+	}
+	for _, b := range badWals() {
+		for _, rec := range append(someRecs(), recsThatNeverFit()...) {
+			want, _ := slowStep(b.w, rec)
+			wantStep(t, b.w, rec, want, false)
+		}
+	}
 }
 
 // A log from its first record on, each answer written out by hand.
@@ -1184,7 +1281,10 @@ func withRoom(w impl.Wal) impl.Wal {
 }
 
 func TestWalAnswersNewMemory(t *testing.T) {
-	for _, ahead := range []impl.Wal{richWal(), {Term: 6, Vote: -1, Base: 11, BaseTerm: 6}} {
+	// The last one is not right, and is to be handed back in new memory all the same.
+	wrong := richWal()
+	wrong.Vote = impl.MaxPeers
+	for _, ahead := range []impl.Wal{richWal(), {Term: 6, Vote: -1, Base: 11, BaseTerm: 6}, wrong} {
 		for _, r := range append(someRecs(), impl.Rec{Kind: impl.RcCut, Index: 9}) {
 			w := spareWal(ahead)
 			first, _ := impl.WalStep(w, r)
@@ -1249,6 +1349,14 @@ func TestWalAnswersNewTexts(t *testing.T) {
 	for i, e := range w.Entries {
 		if sharesBytes(x.Entries[i].Data, e.Data) {
 			t.Errorf("WalStep hands out bytes of the Wal: %#v", e)
+		}
+	}
+	bad := richWal()
+	bad.Term = -1
+	x, _ = impl.WalStep(bad, impl.Rec{Kind: 9})
+	for i, e := range bad.Entries {
+		if sharesBytes(x.Entries[i].Data, e.Data) {
+			t.Errorf("WalStep hands out bytes of a Wal that is not right: %#v", e)
 		}
 	}
 	l, _ := impl.Changes(impl.Wal{Term: 6, Vote: 2, Base: 7, BaseTerm: 3}, w)
