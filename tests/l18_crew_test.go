@@ -1157,9 +1157,13 @@ func someNet(r *rand.Rand, c impl.Crew) []impl.Msg {
 	return l
 }
 
-// rightCrew is a right crew by chance, of nodes that have to do with each other and of some that have not.
+// rightCrew is a right crew by chance.
 func rightCrew(r *rand.Rand) impl.Crew {
-	peers, kind := 1+r.IntN(5), 1+r.IntN(2)
+	return crewOf(r, 1+r.IntN(5), 1+r.IntN(2))
+}
+
+// crewOf is a right crew of nodes that have to do with each other and of some that have not.
+func crewOf(r *rand.Rand, peers, kind int) impl.Crew {
 	first := coreIn(r, 0, peers)
 	c := impl.Crew{Nodes: []impl.Node{nodeIn(r, first, kind)}, Ever: someEver(r, first), Split: r.IntN(8) == 0}
 	for id := 1; id < peers; id++ {
